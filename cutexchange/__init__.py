@@ -1,0 +1,1 @@
+"""Cutexchange: a stretch cut, and its pieces changed about."""

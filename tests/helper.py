@@ -1,0 +1,86 @@
+"""What several test files need: samples, a second way of reckoning, and a look at refusals."""
+
+from fractions import Fraction
+from math import isqrt, lcm
+from random import Random
+
+from cutexchange import errors
+
+ROOTS = [0] + [r for r in range(2, 100) if all(r % (k * k) for k in range(2, 10))]
+
+NAMES = ["NoNumber", "NoChange", "NoPoint", "NoStretch", "NoWord", "NoStep", "Unlike", "NoText", "NoRow", "TooMany"]
+
+
+def deep(depth, shell):
+    """A thing of so many levels, each one made from the one within it."""
+    thing = 1
+    for _ in range(depth):
+        thing = shell(thing)
+    return thing
+
+
+# Things of whatever kind that are no whole number, no number of a root, no point and no change.
+OTHER_KINDS = [
+    True, False, None, "", "1", "(1, 0, 1)", "x" * 2000, [], [1], [1, 0, 1], [[1, 0, 1]], {}, {0: 1}, {"a": (1, 0, 1)},
+    {0: 1, 1: 0, 2: 1}, (), (1,), (1, 0), (1, 0, 1, 1), (None, None, None), ("1", "0", "1"), ((1, 0, 1),),
+    ((1, 0, 1), (1, 0, 1), (1, 0, 1)), ([1], [0], [1]), deep(30, lambda x: [x]), deep(30, lambda x: (x,)),
+    deep(30, lambda x: {"k": x}), deep(30, lambda x: (x, 0, 1)), [0] * 9000, (1,) * 9000,
+]
+
+
+def refused(case, kind, action, *handed):
+    """Sees to it that the call is refused with this very class, and that nothing handed in is changed."""
+    before = repr(handed)
+    told = f"{action.__name__}{before[:200]}"
+    with case.assertRaises(errors.StretchError, msg=told) as caught:
+        action(*handed)
+    error = caught.exception
+    case.assertEqual([name for name in NAMES if isinstance(error, getattr(errors, name))], [kind.__name__], told)
+    case.assertIsInstance(error, ValueError, told)
+    case.assertEqual(repr(handed), before)
+
+
+def tuple_of(fraction, rooted=Fraction(0)):
+    """The number that is a fraction and another one times the root: its bottom is the least that both have."""
+    bottom = lcm(fraction.denominator, rooted.denominator)
+    return (int(fraction * bottom), int(rooted * bottom), bottom)
+
+
+def parts_of(number):
+    """A number as its fraction, and the one that stands with the root."""
+    a, b, c = number
+    return Fraction(a, c), Fraction(b, c)
+
+
+def worth(root, number):
+    """The worth as a fraction: the very one where there is no root part, else right to six hundred figures."""
+    a, b, c = number
+    scale = 10 ** 600
+    rooted = isqrt(root * b * b * scale * scale)
+    return (a + Fraction(rooted if b >= 0 else -rooted, scale)) / c
+
+
+def some_numbers(root, many, figures, seed):
+    """So many numbers of the root, of either sign, whole ones and 0 among them, the same ones each time."""
+    source = Random(f"{root} {many} {figures} {seed}")
+    numbers = [(0, 0, 1), (1, 0, 1), (-1, 0, 1)]
+    while len(numbers) < many:
+        top = 10 ** source.randint(1, figures) - 1
+        rooted = Fraction(source.randint(-top, top), source.randint(1, top)) if root and source.random() < 0.7 else 0
+        fraction = Fraction(source.randint(-top, top), source.choice([1, 1, 2, source.randint(1, top)]))
+        numbers.append(tuple_of(fraction, Fraction(rooted)))
+    return numbers
+
+
+def some_changes(many, seed):
+    """So many changes of many roots, of 1 to 12 pieces, the same ones each time."""
+    source = Random(f"{many} {seed}")
+    changes = []
+    while len(changes) < many:
+        root = source.choice([0, 2, 3, 5, 6, 97])
+        pieces = len(changes) % 12 + 1
+        above = [n for n in some_numbers(root, 60, 2, source.random()) if worth(root, n) > 0]
+        order = list(range(pieces))
+        source.shuffle(order)
+        changes.append((root, tuple(source.choice(above) for _ in range(pieces)), tuple(order)))
+    return changes
