@@ -73,6 +73,24 @@ def came(change, point):
     return minus(root, point, moves_of(change)[piece])
 
 
+def must_be_point(change, thing):
+    """Refuses what is no point of a change."""
+    piece_at(change, thing)
+
+
+def are_pieces(change, thing):
+    """Whether a thing, of whatever kind, is a tuple of one or more pieces' numbers."""
+    if not isinstance(thing, tuple) or len(thing) == 0:
+        return False
+    return all(is_whole(part) and 0 <= part < len(change[1]) for part in thing)
+
+
+def numbered_anew(root, longs, ahead, laid):
+    """The change of pieces in the row ahead of a go and the row laid behind it, numbered from the left on."""
+    numbers = {piece: at for at, piece in enumerate(ahead)}
+    return (root, tuple([longs[piece] for piece in ahead]), tuple([numbers[piece] for piece in laid]))
+
+
 def edges_of(root, longs):
     """Where stretches of these longs begin, side by side from 0 on, and where the last one ends."""
     edges = [ZERO]

@@ -24,6 +24,12 @@ def is_root(thing):
     return 2 <= thing <= GREATEST_ROOT and all(thing % square != 0 for square in SQUARES)
 
 
+def must_be_from_to(thing, least, most):
+    """Refuses what is no whole number from the least to the most that is let."""
+    if not is_whole(thing) or not least <= thing <= most:
+        raise NoNumber(f"a whole number from {least} to {most} is due")
+
+
 def number_of(root, a, b, c):
     """The number worth a and b times the root's square root together, by c."""
     if not (is_whole(a) and is_whole(b) and is_whole(c)):

@@ -5,6 +5,8 @@ from math import isqrt, lcm
 from random import Random
 
 from cutexchange import errors
+from cutexchange.changes import begins_of
+from cutexchange.numbers import minus, plus, times
 
 ROOTS = [0] + [r for r in range(2, 100) if all(r % (k * k) for k in range(2, 10))]
 
@@ -84,3 +86,66 @@ def some_changes(many, seed):
         source.shuffle(order)
         changes.append((root, tuple(source.choice(above) for _ in range(pieces)), tuple(order)))
     return changes
+
+
+def rising(root, numbers):
+    """The numbers without those that stand twice, the least first."""
+    return sorted(set(numbers), key=lambda number: worth(root, number))
+
+
+def some_points(change):
+    """Points of each piece: its begin, two within it, and one just ahead of its end."""
+    root, longs, order = change
+    points = []
+    for begin, long in zip(begins_of(change), longs):
+        within = [times(root, long, part) for part in [(1, 0, 2), (5, 0, 7)]]
+        fars = [(0, 0, 1), *within, minus(root, long, (1, 0, 10 ** 39))]
+        points += [plus(root, begin, far) for far in fars]
+    return points
+
+
+def of_cells(lengths, order):
+    """The change of root 0 whose pieces are so many cells, stretches of 1, long."""
+    return (0, tuple((long, 0, 1) for long in lengths), tuple(order))
+
+
+def cells_of(change):
+    """Where each cell of a change of whole longs of root 0 goes: a list."""
+    root, longs, order = change
+    goes_to = []
+    for piece, (long, _, _) in enumerate(longs):
+        begin = sum(longs[other][0] for other in order[:order.index(piece)])
+        goes_to += range(begin, begin + long)
+    return goes_to
+
+
+def change_of_cells(goes_to):
+    """The slim change by which cells go so."""
+    firsts = [at for at in range(len(goes_to)) if at == 0 or goes_to[at] != goes_to[at - 1] + 1]
+    ends = firsts[1:] + [len(goes_to)]
+    laid = sorted(range(len(firsts)), key=lambda piece: goes_to[firsts[piece]])
+    return of_cells([end - first for first, end in zip(firsts, ends)], laid)
+
+
+def some_cell_changes(many, cells, seed):
+    """So many changes of whole longs of root 0, of 1 to 12 pieces, so many cells in all, the same ones each time."""
+    source = Random(f"{many} {cells} {seed}")
+    changes = []
+    while len(changes) < many:
+        pieces = len(changes) % 12 + 1
+        edges = [0] + sorted(source.sample(range(1, cells), pieces - 1)) + [cells]
+        changes.append(of_cells([b - a for a, b in zip(edges, edges[1:])], source.sample(range(pieces), pieces)))
+    return changes
+
+
+def new_each_time(case, action, *handed):
+    """Sees to it that a told list is new and the asker's own, and that the same asked again is answered alike."""
+    before = repr(handed)
+    first = action(*handed)
+    kept = list(first)
+    case.assertIs(type(first), list)
+    case.assertIsNot(action(*handed), first)
+    first.clear()
+    first.append("else")
+    case.assertEqual(action(*handed), kept)
+    case.assertEqual(repr(handed), before)

@@ -65,7 +65,8 @@ class Form(unittest.TestCase):
     def test_names(self):
         for name, _, tree in each_file():
             own = bound_names(tree)
-            self.assertEqual([n for n in own if n.startswith("_") or n in dir(builtins)], [], name)
+            barred = [n for n in own if (n.startswith("_") and n != "__init__") or n in dir(builtins)]
+            self.assertEqual(barred, [], name)
             read = {node.id for node in ast.walk(tree) if isinstance(node, ast.Name)}
             self.assertEqual(read - own - BUILTINS, set(), name)
 
