@@ -3,7 +3,7 @@
 A place is a pair (a, b), worth a and b times the root's square root together, by the grid's bottom.
 """
 
-from cutexchange.numbers import divisor_of_both, in_lowest_terms, is_below_zero
+from cutexchange.numbers import in_lowest_terms, is_below_zero, least_that_both_divide
 
 ORIGIN = (0, 0)
 
@@ -42,7 +42,7 @@ def bottom_of_all(numbers):
     """The least whole number that the bottoms of all numbers divide."""
     bottom = 1
     for a, b, c in numbers:
-        bottom = bottom // divisor_of_both(bottom, c) * c
+        bottom = least_that_both_divide(bottom, c)
     return bottom
 
 

@@ -178,3 +178,8 @@ def divisor_of_both(one, other):
     while other != 0:
         one, other = other, one % other
     return one
+
+
+def least_that_both_divide(one, other):
+    """The least whole number above 0 that both divide, which are from 1 on."""
+    return one // divisor_of_both(one, other) * other

@@ -32,9 +32,7 @@ def many_words(change, often):
 def stretch_of(change, word):
     """The stretch (begin, end) of the points that have a word; None where there are none."""
     must_be_word(change, word)
-    grid = Grid(change, [])
-    strand = strand_of(grid, word)
-    return None if strand is None else stretch_told(grid, strand)
+    return stretch_with_word(Grid(change, []), word)
 
 
 def next_pieces(change, word):
@@ -65,12 +63,20 @@ def strands_by(grid, often):
 def gone_once(grid, strands):
     """The strands by one go more, each one cut where pieces begin."""
     gone = []
-    for word, first, begin, end in strands:
-        for piece, low, high in cut_at(grid.root, grid.edges, begin, end):
+    for strand in strands:
+        for piece, (word, first, begin, end) in cut_strand(grid.root, grid.edges, strand):
             move = grid.moves[piece]
-            start = sum_of(first, difference_of(low, begin))
-            gone.append((word + (piece,), start, sum_of(low, move), sum_of(high, move)))
+            gone.append((word + (piece,), first, sum_of(begin, move), sum_of(end, move)))
     return gone
+
+
+def cut_strand(root, edges, strand):
+    """A strand cut at the edges within it, where it lies now: tuples (stretch between two edges, strand)."""
+    word, first, begin, end = strand
+    parts = []
+    for at, low, high in cut_at(root, edges, begin, end):
+        parts.append((at, (word, sum_of(first, difference_of(low, begin)), low, high)))
+    return parts
 
 
 def strand_of(grid, word):
@@ -84,6 +90,12 @@ def strand_of(grid, word):
         move = grid.moves[piece]
         begin, end, moved = sum_of(begin, move), sum_of(end, move), sum_of(moved, move)
     return (word, difference_of(begin, moved), begin, end)
+
+
+def stretch_with_word(grid, word):
+    """The stretch (begin, end) of all points that have a word, however long it is; None where there are none."""
+    strand = strand_of(grid, word)
+    return None if strand is None else stretch_told(grid, strand)
 
 
 def stretch_told(grid, strand):
