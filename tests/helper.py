@@ -12,6 +12,19 @@ ROOTS = [0] + [r for r in range(2, 100) if all(r % (k * k) for k in range(2, 10)
 
 NAMES = ["NoNumber", "NoChange", "NoPoint", "NoStretch", "NoWord", "NoStep", "Unlike", "NoText", "NoRow", "TooMany"]
 
+ZERO = (0, 0, 1)
+ONE = (1, 0, 1)
+HALF = (1, 0, 2)
+ROOT = (0, 1, 1)
+
+STILL = (0, (ONE,), (0,))
+THREE = (0, ((1, 0, 2), (1, 0, 3), (2, 0, 1)), (2, 0, 1))
+GOLDEN = (2, (ONE, (-1, 1, 1)), (1, 0))
+FREE = (2, ((1, 0, 1), (0, 1, 1), (3, -1, 1), (-1, 2, 5)), (3, 2, 1, 0))
+TWELVE = (3, tuple((piece + 1, 1, 7) for piece in range(12)), (11, 3, 7, 0, 9, 4, 1, 10, 5, 8, 2, 6))
+# The first two pieces turn and never come round; the next two change places; the last one stays.
+MIXED = (2, (ONE, (-1, 1, 1), HALF, HALF, ROOT), (1, 0, 3, 2, 4))
+
 
 def deep(depth, shell):
     """A thing of so many levels, each one made from the one within it."""
@@ -109,6 +122,15 @@ def of_cells(lengths, order):
     return (0, tuple((long, 0, 1) for long in lengths), tuple(order))
 
 
+def turns(*sizes):
+    """Turns side by side, each one of so many cells, whose points come to themselves by as many goes."""
+    lengths, order = [], []
+    for size in sizes:
+        order += [len(lengths) + 1, len(lengths)] if size > 1 else [len(lengths)]
+        lengths += [size - 1, 1] if size > 1 else [1]
+    return of_cells(lengths, order)
+
+
 def cells_of(change):
     """Where each cell of a change of whole longs of root 0 goes: a list."""
     root, longs, order = change
@@ -117,6 +139,18 @@ def cells_of(change):
         begin = sum(longs[other][0] for other in order[:order.index(piece)])
         goes_to += range(begin, begin + long)
     return goes_to
+
+
+def scaled_change(change, root):
+    """A change of whole longs of root 0, each one times another root."""
+    return (root, tuple((0, long[0], 1) for long in change[1]), change[2])
+
+
+def in_other_orders(change):
+    """Changes with the longs of a change, some of them in another row, that come to lie in other orders."""
+    root, longs, order = change
+    orders = [order[::-1], order[1:] + order[:1], tuple(range(len(longs)))[::-1]]
+    return [(root, longs, other) for other in orders] + [(root, longs[::-1], order)]
 
 
 def change_of_cells(goes_to):

@@ -10,30 +10,13 @@ from cutexchange.numbers import is_number, minus, plus, times
 from cutexchange.walks import comes_back, word_of
 from cutexchange.words import all_words
 from tests.helper import (
-    OTHER_KINDS, cells_of, new_each_time, of_cells, refused, some_cell_changes, some_changes, some_points, worth,
+    GOLDEN, HALF, MIXED, ONE, OTHER_KINDS, ROOT, STILL, TWELVE, ZERO, cells_of, new_each_time, of_cells, refused,
+    scaled_change, some_cell_changes, some_changes, some_points, turns, worth,
 )
 
-ZERO = (0, 0, 1)
-ONE = (1, 0, 1)
-HALF = (1, 0, 2)
-ROOT = (0, 1, 1)
-STILL = (0, (ONE,), (0,))
-GOLDEN = (2, (ONE, (-1, 1, 1)), (1, 0))
-TWELVE = (3, tuple((piece + 1, 1, 7) for piece in range(12)), (11, 3, 7, 0, 9, 4, 1, 10, 5, 8, 2, 6))
-# The first two pieces turn and never come round; the next two change places; the last one stays.
-MIXED = (2, (ONE, (-1, 1, 1), HALF, HALF, ROOT), (1, 0, 3, 2, 4))
 MIXED_BANDS = [
     (ROOT, (1, 2, 2), (2, 3)), ((1, 2, 2), (1, 1, 1), (3, 2)), ((1, 1, 1), (1, 2, 1), (4,)),
 ]
-
-
-def turns(*sizes):
-    """Turns side by side, each one of so many cells, whose points come to themselves by as many goes."""
-    lengths, order = [], []
-    for size in sizes:
-        order += [len(lengths) + 1, len(lengths)] if size > 1 else [len(lengths)]
-        lengths += [size - 1, 1] if size > 1 else [1]
-    return of_cells(lengths, order)
 
 
 def cell_bands(change):
@@ -52,10 +35,6 @@ def cell_bands(change):
 def scaled(number):
     """A whole number times the root."""
     return (0, number[0], 1) if number[0] else ZERO
-
-
-def scaled_change(change, root):
-    return (root, tuple(scaled(long) for long in change[1]), change[2])
 
 
 class BandOf(unittest.TestCase):

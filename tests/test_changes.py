@@ -6,14 +6,7 @@ from fractions import Fraction
 from itertools import permutations
 
 from cutexchange.changes import begins_of, is_change, laid_of, moves_of, whole_of
-from tests.helper import OTHER_KINDS, ROOTS, parts_of, some_changes, tuple_of
-
-ZERO = (0, 0, 1)
-ONE = (1, 0, 1)
-HALF = (1, 0, 2)
-ROOT = (0, 1, 1)
-GOLDEN = (2, (ONE, (-1, 1, 1)), (1, 0))
-THREE = (0, ((1, 0, 2), (1, 0, 3), (2, 0, 1)), (2, 0, 1))
+from tests.helper import GOLDEN, HALF, ONE, OTHER_KINDS, ROOT, ROOTS, THREE, ZERO, parts_of, some_changes, tuple_of
 
 
 def of_pieces(many, root=0):

@@ -7,10 +7,7 @@ from math import floor, gcd
 
 from cutexchange.errors import NoNumber
 from cutexchange.numbers import floor_of, is_number, less, minus, number_of, plus, simplest
-from tests.helper import ROOTS, refused, some_numbers, tuple_of, worth
-
-ZERO = (0, 0, 1)
-ONE = (1, 0, 1)
+from tests.helper import ONE, ROOTS, ZERO, refused, some_numbers, tuple_of, worth
 
 
 def near_root_2():

@@ -5,13 +5,9 @@ import unittest
 from cutexchange.changes import begins_of, came, goes, laid_of, moves_of, piece_at, whole_of
 from cutexchange.errors import NoPoint
 from cutexchange.numbers import is_number, less, minus, plus, times
-from tests.helper import OTHER_KINDS, refused, some_changes, worth
+from tests.helper import GOLDEN, ONE, OTHER_KINDS, THREE, ZERO, refused, some_changes, worth
 
-ZERO = (0, 0, 1)
-ONE = (1, 0, 1)
 TINY = (1, 0, 10 ** 39)
-GOLDEN = (2, (ONE, (-1, 1, 1)), (1, 0))
-THREE = (0, ((1, 0, 2), (1, 0, 3), (2, 0, 1)), (2, 0, 1))
 ASKS = (piece_at, goes, came)
 
 

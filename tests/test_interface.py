@@ -32,6 +32,9 @@ LISTED = {
         "is_even": "change", "step_of": "change", "steps_done": "change most", "unstepped": "change sort",
     },
     "rows": {"rows_of": "change most", "are_rows": "change lesser thing"},
+    "drift": {"drift_of": "change", "turn_by": "root whole by", "crossed": "one other"},
+    "parts": {"parts_at": "change", "parted": "change", "side_by_side": "changes"},
+    "meetings": {"meetings_of": "change most"},
 }
 
 

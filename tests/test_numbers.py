@@ -7,10 +7,8 @@ from math import gcd
 
 from cutexchange.errors import NoNumber
 from cutexchange.numbers import is_number, less, minus, number_of, over, plus, times
-from tests.helper import OTHER_KINDS, ROOTS, parts_of, refused, some_numbers, tuple_of, worth
+from tests.helper import ONE, OTHER_KINDS, ROOTS, ZERO, parts_of, refused, some_numbers, tuple_of, worth
 
-ZERO = (0, 0, 1)
-ONE = (1, 0, 1)
 NUMBER_ROOTS = (0, 2, 3, 6, 97)
 
 

@@ -9,18 +9,9 @@ from cutexchange.numbers import less, minus, plus, times
 from cutexchange.returns import back_to, met_long
 from cutexchange.together import same, slim
 from tests.helper import (
-    OTHER_KINDS, cells_of, of_cells, parts_of, refused, some_cell_changes, some_changes, some_points, tuple_of,
+    FREE, GOLDEN, HALF, MIXED, ONE, OTHER_KINDS, ROOT, STILL, TWELVE, ZERO, cells_of, of_cells, parts_of, refused,
+    some_cell_changes, some_changes, some_points, tuple_of,
 )
-
-ZERO = (0, 0, 1)
-ONE = (1, 0, 1)
-HALF = (1, 0, 2)
-ROOT = (0, 1, 1)
-STILL = (0, (ONE,), (0,))
-GOLDEN = (2, (ONE, (-1, 1, 1)), (1, 0))
-TWELVE = (3, tuple((piece + 1, 1, 7) for piece in range(12)), (11, 3, 7, 0, 9, 4, 1, 10, 5, 8, 2, 6))
-FREE = (2, ((1, 0, 1), (0, 1, 1), (3, -1, 1), (-1, 2, 5)), (3, 2, 1, 0))
-MIXED = (2, (ONE, (-1, 1, 1), HALF, HALF, ROOT), (1, 0, 3, 2, 4))
 
 
 def turned(many):

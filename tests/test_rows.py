@@ -9,14 +9,10 @@ from cutexchange.returns import back_to
 from cutexchange.rows import are_rows, rows_of
 from cutexchange.steps import steps_done, unstepped
 from cutexchange.together import often, slim
-from tests.helper import OTHER_KINDS, of_cells, refused, some_cell_changes, some_changes, some_points
-
-ZERO = (0, 0, 1)
-ONE = (1, 0, 1)
-STILL = (0, (ONE,), (0,))
-GOLDEN = (2, (ONE, (-1, 1, 1)), (1, 0))
-FREE = (2, ((1, 0, 1), (0, 1, 1), (3, -1, 1), (-1, 2, 5)), (3, 2, 1, 0))
-TWELVE = (3, tuple((piece + 1, 1, 7) for piece in range(12)), (11, 3, 7, 0, 9, 4, 1, 10, 5, 8, 2, 6))
+from tests.helper import (
+    FREE, GOLDEN, ONE, OTHER_KINDS, STILL, TWELVE, ZERO, of_cells, refused, some_cell_changes, some_changes,
+    some_points,
+)
 
 
 def own(change):

@@ -8,15 +8,10 @@ from cutexchange.errors import NoNumber, NoStep
 from cutexchange.numbers import minus
 from cutexchange.returns import back_to
 from cutexchange.steps import is_even, step_of, steps_done, unstepped
-from tests.helper import OTHER_KINDS, of_cells, refused, some_cell_changes, some_changes, worth
-
-ZERO = (0, 0, 1)
-ONE = (1, 0, 1)
-HALF = (1, 0, 2)
-STILL = (0, (ONE,), (0,))
-GOLDEN = (2, (ONE, (-1, 1, 1)), (1, 0))
-FREE = (2, ((1, 0, 1), (0, 1, 1), (3, -1, 1), (-1, 2, 5)), (3, 2, 1, 0))
-TWELVE = (3, tuple((piece + 1, 1, 7) for piece in range(12)), (11, 3, 7, 0, 9, 4, 1, 10, 5, 8, 2, 6))
+from tests.helper import (
+    FREE, GOLDEN, HALF, ONE, OTHER_KINDS, STILL, TWELVE, ZERO, of_cells, refused, some_cell_changes, some_changes,
+    worth,
+)
 
 
 def evenly(change):

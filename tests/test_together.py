@@ -9,17 +9,9 @@ from cutexchange.numbers import times
 from cutexchange.together import behind, is_idle, often, same, slim, undone
 from cutexchange.walks import after
 from tests.helper import (
-    OTHER_KINDS, cells_of, change_of_cells, of_cells, parts_of, refused, rising, some_cell_changes, some_changes,
-    some_points, tuple_of,
+    FREE, GOLDEN, ONE, OTHER_KINDS, STILL, THREE, TWELVE, ZERO, cells_of, change_of_cells, of_cells, parts_of, refused,
+    rising, some_cell_changes, some_changes, some_points, tuple_of,
 )
-
-ZERO = (0, 0, 1)
-ONE = (1, 0, 1)
-STILL = (0, (ONE,), (0,))
-GOLDEN = (2, (ONE, (-1, 1, 1)), (1, 0))
-THREE = (0, ((1, 0, 2), (1, 0, 3), (2, 0, 1)), (2, 0, 1))
-FREE = (2, ((1, 0, 1), (0, 1, 1), (3, -1, 1), (-1, 2, 5)), (3, 2, 1, 0))
-TWELVE = (3, tuple((piece + 1, 1, 7) for piece in range(12)), (11, 3, 7, 0, 9, 4, 1, 10, 5, 8, 2, 6))
 
 
 def is_slim(change):

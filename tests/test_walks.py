@@ -7,17 +7,11 @@ from cutexchange.errors import NoNumber, NoPoint
 from cutexchange.numbers import is_number, minus
 from cutexchange.walks import after, comes_back, word_of
 from tests.helper import (
-    OTHER_KINDS, cells_of, of_cells, refused, some_cell_changes, some_changes, some_points, worth,
+    GOLDEN, HALF, ONE, OTHER_KINDS, STILL, THREE, TWELVE, ZERO, cells_of, of_cells, refused, some_cell_changes,
+    some_changes, some_points, worth,
 )
 
-ZERO = (0, 0, 1)
-ONE = (1, 0, 1)
-HALF = (1, 0, 2)
-STILL = (0, (ONE,), (0,))
-GOLDEN = (2, (ONE, (-1, 1, 1)), (1, 0))
-THREE = (0, ((1, 0, 2), (1, 0, 3), (2, 0, 1)), (2, 0, 1))
 FORTY = (97, ((10 ** 40 - 1, 0, 10 ** 40 - 3), (1, 10 ** 39 + 1, 10 ** 40 - 9), (0, 1, 10 ** 39)), (2, 0, 1))
-TWELVE = (3, tuple((piece + 1, 1, 7) for piece in range(12)), (11, 3, 7, 0, 9, 4, 1, 10, 5, 8, 2, 6))
 
 
 def turned(many):

@@ -9,17 +9,11 @@ from cutexchange.numbers import plus, simplest, times
 from cutexchange.walks import word_of
 from cutexchange.words import all_words, many_words, next_pieces, stretch_of
 from tests.helper import (
-    OTHER_KINDS, cells_of, new_each_time, of_cells, refused, rising, some_cell_changes, some_changes, worth,
+    FREE, GOLDEN, ONE, OTHER_KINDS, STILL, THREE, TWELVE, ZERO, cells_of, new_each_time, of_cells, refused, rising,
+    some_cell_changes, some_changes, worth,
 )
 
-ZERO = (0, 0, 1)
-ONE = (1, 0, 1)
-STILL = (0, (ONE,), (0,))
-GOLDEN = (2, (ONE, (-1, 1, 1)), (1, 0))
-THREE = (0, ((1, 0, 2), (1, 0, 3), (2, 0, 1)), (2, 0, 1))
 FORTY = (97, ((10 ** 40 - 1, 0, 10 ** 40 - 3), (1, 10 ** 39 + 1, 10 ** 40 - 9), (0, 1, 10 ** 39)), (2, 0, 1))
-TWELVE = (3, tuple((piece + 1, 1, 7) for piece in range(12)), (11, 3, 7, 0, 9, 4, 1, 10, 5, 8, 2, 6))
-FREE = (2, ((1, 0, 1), (0, 1, 1), (3, -1, 1), (-1, 2, 5)), (3, 2, 1, 0))
 # These of the other kinds are words of a change of two pieces or more.
 NO_WORDS = [thing for thing in OTHER_KINDS if thing not in [(1,), (1, 0), (1, 0, 1, 1)]]
 
