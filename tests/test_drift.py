@@ -245,6 +245,9 @@ class TurnBy(unittest.TestCase):
                 (10 ** 40 - 1, 0, 1),
             ]:
                 refused(self, NoNumber, turn_by, root, whole, thing)
+        # Nothing from 0 on is less than what is no whole.
+        for thing in OTHER_KINDS + [ZERO, (-1, 0, 1), (0, -1, 1), (2, 0, 2), ROOT, 1]:
+            refused(self, NoNumber, turn_by, 0, thing, ZERO)
         refused(self, NoNumber, turn_by, 0, (2, 0, 1), ROOT)
         refused(self, NoNumber, turn_by, 2, (2, 0, 1), (0, -1, 1))
         refused(self, NoNumber, turn_by, 2, (7, 0, 5), ROOT)

@@ -35,6 +35,9 @@ LISTED = {
     "drift": {"drift_of": "change", "turn_by": "root whole by", "crossed": "one other"},
     "parts": {"parts_at": "change", "parted": "change", "side_by_side": "changes"},
     "meetings": {"meetings_of": "change most"},
+    "shares": {"is_share": "change thing", "least_share": "change point"},
+    "loops": {"loop_shown": "change thing", "loop_of": "change most"},
+    "texts": {"number_text": "number", "change_text": "change", "number_read": "text", "change_read": "text"},
 }
 
 

@@ -135,7 +135,8 @@ class MeetingsOf(unittest.TestCase):
         many = 10 ** 40 - 1
         change = (97, ((many, 0, many - 1), (many, many - 2, many - 4), (-1, many, many - 6)), (2, 1, 0))
         self.assertEqual(meetings_of(change, 50), gone_one_by_one(change, 50))
-        self.assertEqual(meetings_of((97, change[1] + change[1][:1], (3, 1, 2, 0)), 2000), [(1, 1, 1), (2, 1, 2), (3, 2, 3)])
+        other = (97, change[1] + change[1][:1], (3, 1, 2, 0))
+        self.assertEqual(meetings_of(other, 2000), [(1, 1, 1), (2, 1, 2), (3, 2, 3)])
 
     def test_refused(self):
         for change in (STILL, GOLDEN, TWELVE, turns(2000)):
